@@ -1,0 +1,71 @@
+package tests
+
+import (
+	"math"
+	"time"
+
+	"loop.example/satelliteclock/impl"
+)
+
+// The limits of the document as numbers, so that a wrong constant is found.
+const (
+	firstYear = 1980
+	lastYear  = 2099
+	lastDay   = 43829
+	epochDay  = 5
+	lastTime  = 3786479999
+	dayLong   = 86400
+	weekLong  = 604800
+	cycle     = 1024
+	lastWeek  = 6000
+)
+
+// outside returns numbers that are not in low..high: the nearest ones, and
+// far ones with which careless arithmetic overflows.
+func outside(low int, high int) []int {
+	return []int{low - 1, low - 7, high + 1, high + 7, -math.MaxInt32, math.MaxUint32 * 1000, math.MinInt, math.MinInt + 1, math.MaxInt - 1, math.MaxInt}
+}
+
+// calendar returns all dates in order, as the standard library knows them.
+func calendar() []impl.Date {
+	var dates []impl.Date
+	first := time.Date(firstYear, time.January, 1, 0, 0, 0, 0, time.UTC)
+	for at := first; at.Year() <= lastYear; at = at.AddDate(0, 0, 1) {
+		dates = append(dates, impl.Date{Year: at.Year(), Month: int(at.Month()), Day: at.Day()})
+	}
+	return dates
+}
+
+// hasLeapDay reports whether a year has 29 February, as the standard library knows it.
+func hasLeapDay(year int) bool {
+	return time.Date(year, time.February, 29, 0, 0, 0, 0, time.UTC).Month() == time.February
+}
+
+// someTimes returns satellite times, ascending: the first and the last ones,
+// those around ends of days, of many weeks and of cycles of weeks, and others.
+func someTimes() []int {
+	seconds := []int{0, 1, 59, 60, dayLong - 1, dayLong, 4*dayLong + 4321, weekLong - 2, weekLong - 1}
+	var times []int
+	for week := 0; week*weekLong <= lastTime; week++ {
+		if week > 2 && week < 6258 && week%cycle > 2 && week%cycle < cycle-2 && week%37 != 0 && (week < 5998 || week > 6001) {
+			continue
+		}
+		for _, second := range seconds {
+			if t := week*weekLong + second; t <= lastTime {
+				times = append(times, t)
+			}
+		}
+	}
+	return append(times, lastTime-1, lastTime)
+}
+
+// someWeeks returns weeks that a full week can be asked from, ascending.
+func someWeeks() []int {
+	var weeks []int
+	for week := 0; week <= lastWeek; week++ {
+		if week < 3 || week > lastWeek-3 || week%cycle < 2 || week%cycle > cycle-3 || week%83 == 0 {
+			weeks = append(weeks, week)
+		}
+	}
+	return weeks
+}
