@@ -18,6 +18,13 @@ const (
 	weekLong  = 604800
 	cycle     = 1024
 	lastWeek  = 6000
+
+	longestText  = 40
+	longestInput = 300
+	mostFrames   = 8
+
+	mostLeaps = 8
+	lastLeap  = lastTime / 2
 )
 
 // outside returns numbers that are not in low..high: the nearest ones, and
