@@ -25,6 +25,10 @@ const (
 
 	mostLeaps = 8
 	lastLeap  = lastTime / 2
+
+	farOffset   = 1000000
+	mostSources = 7
+	mostSamples = 8
 )
 
 // outside returns numbers that are not in low..high: the nearest ones, and
@@ -75,4 +79,13 @@ func someWeeks() []int {
 		}
 	}
 	return weeks
+}
+
+// dice gives numbers that look thrown but are the same in every run.
+type dice uint32
+
+// throw returns one of the numbers in 0..sides-1.
+func (d *dice) throw(sides int) int {
+	*d = *d*1664525 + 1013904223
+	return int(*d>>8) % sides
 }
