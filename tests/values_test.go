@@ -29,12 +29,26 @@ const (
 	farOffset   = 1000000
 	mostSources = 7
 	mostSamples = 8
+
+	fastRate    = 500000
+	rateLong    = 1000
+	longestSpan = 100000
+	stepFrom    = 128000
+	slewLong    = 4096
+
+	mostPhases = 16
 )
 
 // outside returns numbers that are not in low..high: the nearest ones, and
 // far ones with which careless arithmetic overflows.
 func outside(low int, high int) []int {
 	return []int{low - 1, low - 7, high + 1, high + 7, -math.MaxInt32, math.MaxUint32 * 1000, math.MinInt, math.MinInt + 1, math.MaxInt - 1, math.MaxInt}
+}
+
+// plainFloor returns a number divided by a positive one and rounded down.
+func plainFloor(n int, by int) int {
+	rest := (n%by + by) % by
+	return (n - rest) / by
 }
 
 // calendar returns all dates in order, as the standard library knows them.
