@@ -37,12 +37,29 @@ const (
 	slewLong    = 4096
 
 	mostPhases = 16
+
+	mostError  = 1000000
+	mostWander = 1000
+	lockLong   = 60
+	goodError  = 1000
+	poorError  = 100000
+
+	mostSpread  = 65535
+	lastCivil   = 200000000
+	lastStamp   = 200000000999999
+	packetLong  = 23
+	lastMicro   = 999999
+	secondLong  = 1000000
+	mostLeap    = 3
+	mostMode    = 7
+	mostStratum = 15
+	mostPoll    = 17
 )
 
 // outside returns numbers that are not in low..high: the nearest ones, and
 // far ones with which careless arithmetic overflows.
 func outside(low int, high int) []int {
-	return []int{low - 1, low - 7, high + 1, high + 7, -math.MaxInt32, math.MaxUint32 * 1000, math.MinInt, math.MinInt + 1, math.MaxInt - 1, math.MaxInt}
+	return []int{low - 1, low - 7, high + 1, high + 7, -math.MaxInt32, math.MaxUint32 * 100000, math.MinInt, math.MinInt + 1, math.MaxInt - 1, math.MaxInt}
 }
 
 // plainFloor returns a number divided by a positive one and rounded down.
