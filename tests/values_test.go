@@ -54,6 +54,22 @@ const (
 	mostMode    = 7
 	mostStratum = 15
 	mostPoll    = 17
+
+	clientMode = 3
+	serverMode = 4
+	alarm      = 3
+	levelNone  = 0
+	levelHold  = 1
+	levelLock  = 2
+
+	smearLong = 86400
+	halfSmear = smearLong / 2
+
+	minPower  = 4
+	maxPower  = 10
+	mostCount = 30
+	pollGate  = 4
+	mostPolls = 30
 )
 
 // outside returns numbers that are not in low..high: the nearest ones, and
