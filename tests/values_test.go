@@ -70,6 +70,16 @@ const (
 	mostCount = 30
 	pollGate  = 4
 	mostPolls = 30
+
+	lastReading = 100000000
+	mostPulses  = 16
+	pulseSlack  = 2000
+	labelSlack  = 700000
+
+	lastClient  = 99
+	mostTokens  = 5
+	tokenLong   = 8
+	mostBuckets = 8
 )
 
 // outside returns numbers that are not in low..high: the nearest ones, and
