@@ -80,6 +80,13 @@ const (
 	mostTokens  = 5
 	tokenLong   = 8
 	mostBuckets = 8
+
+	mostSeen = 32
+
+	mostLines     = 20
+	leastSeen     = 4
+	fixError      = 100
+	sessionWander = 10
 )
 
 // outside returns numbers that are not in low..high: the nearest ones, and
